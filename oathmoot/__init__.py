@@ -1,0 +1,1 @@
+"""Oathmoot: agreement among nodes that choose whom they trust."""
