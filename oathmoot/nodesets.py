@@ -11,6 +11,16 @@ def is_within(small, large):
     return all([name in large for name in small])
 
 
+def names_outside(names, excluded):
+    """Those of the names that are not in the other set, in the same order."""
+    return tuple([name for name in names if name not in excluded])
+
+
+def is_ascending(entries):
+    """Whether each entry is greater than the one before it, so that there are no duplicates either."""
+    return all([entries[at] < entries[at + 1] for at in range(len(entries) - 1)])
+
+
 def set_order(nodes):
     """The key by which several node sets are sorted: by size, then as tuples."""
     return (len(nodes), nodes)

@@ -1,4 +1,4 @@
-"""Networks, requirements and direct checks that several tests use."""
+"""Networks, requirements and direct checks of requirements that several tests use."""
 
 import itertools
 
@@ -96,6 +96,38 @@ REQUIREMENTS = (
     (6, tuple((count, pair) for count in (1, 2) for pair in (("a", "b"), ("b", "c"), ("c", "a")))),
     (12, tuple("abcdefgh") + tuple((1, (name,)) for name in "abcd")),
 )
+
+
+def drawn_requirement(chance, names):
+    """A requirement over the names, mostly with inner requirements, within the limits."""
+    while True:
+        parts = []
+        for _ in range(chance.randint(1, 5)):
+            if chance.random() < 0.6:
+                part = chance.choice(names)
+            else:
+                inner = chance.sample(names, chance.randint(1, min(4, len(names))))
+                part = (chance.randint(1, len(inner)), tuple(inner))
+            if part not in parts:
+                parts.append(part)
+        if sum(1 if isinstance(part, str) else len(part[1]) for part in parts) <= 12:
+            return (chance.randint(1, len(parts)), tuple(parts))
+
+
+def drawn_network(chance, size):
+    """A network of this size: drawn requirements, or every node with the same kind of majority."""
+    names = "abcdefgh"[:size]
+    if size > 1 and chance.random() < 0.4:
+        return Network([(name, (chance.randint(size // 2, size) or 1, tuple(names))) for name in names])
+    return Network([(name, drawn_requirement(chance, names)) for name in names])
+
+
+def drawn_set(chance, names, share=0.5):
+    """A subset of the names, each with this chance, in any order and perhaps with duplicates."""
+    nodes = [name for name in names if chance.random() < share]
+    nodes = nodes + [chance.choice(nodes) for _ in range(chance.randint(0, 2)) if nodes]
+    chance.shuffle(nodes)
+    return chance.choice((list, tuple))(nodes)
 
 
 def subsets(names):

@@ -1,25 +1,41 @@
 """The interface of the landed files, and the rules of form that can be read off the files."""
 
 import ast
+import builtins
 import pathlib
 import re
 import unittest
 
 PACKAGE = pathlib.Path(__file__).resolve().parent.parent / "oathmoot"
 
-# What each file defines itself, with the names of the parameters.
+# What each file defines itself, with the parameters.
+WITH_FAULTY = "network, *, faulty=()"
+NODES_AND_FAULTY = "network, nodes, *, faulty=()"
 FUNCTIONS = {
     "requirements": {
-        "is_name": "value", "is_requirement": "value", "names_in": "requirement", "satisfies": "requirement nodes",
-        "blocks": "requirement nodes", "dual": "requirement", "minimal_satisfying": "requirement",
+        "is_name": "value", "is_requirement": "value", "names_in": "requirement", "satisfies": "requirement, nodes",
+        "blocks": "requirement, nodes", "dual": "requirement", "minimal_satisfying": "requirement",
         "minimal_blocking": "requirement",
+    },
+    "quorums": {
+        "is_quorum": NODES_AND_FAULTY, "removal_order": NODES_AND_FAULTY, "largest_quorum": NODES_AND_FAULTY,
+        "is_removal_order": "network, nodes, order, *, faulty=()", "minimal_quorums": WITH_FAULTY,
+    },
+    "intersection": {
+        "intersection": WITH_FAULTY, "are_disjoint_quorums": "network, one, other, *, faulty=()",
+        "is_intersection_certificate": "network, certificate, *, faulty=()",
+    },
+    "tolerance": {
+        "tolerance": "network, faulty", "tolerated_sets": "network", "minimal_tolerated": "network, faulty",
+        "closure": "network, faulty", "fatal_sets": "network", "guardian_sets": "network",
+        "repairs": "network, faulty", "dependent_nodes": "network, faulty",
     },
 }
 METHODS = {
     "networks": {
         "Network": {
-            "__init__": "rows", "node_names": "", "as_rows": "", "requirement_of": "name",
-            "with_node": "name requirement", "without_node": "name",
+            "__init__": "self, rows=()", "node_names": "self", "as_rows": "self", "requirement_of": "self, name",
+            "with_node": "self, name, requirement", "without_node": "self, name",
         },
     },
 }
@@ -28,10 +44,24 @@ BARRED_WORDS = (
     "NamedTuple TypedDict TYPE_CHECKING abstractmethod"
 ).split()
 BARRED_PARTS = ("dataclass", "overload", "contextmanager")
+BUILTINS = (
+    "len range enumerate zip min max sum abs sorted reversed int str bool list tuple dict set isinstance ord repr any "
+    "all divmod ValueError"
+).split()
+BUILTIN_METHODS = (
+    "append clear copy count endswith extend find get index insert isalnum isalpha isdigit islower isspace isupper "
+    "items join keys ljust lower lstrip partition pop remove replace reverse rfind rjust rpartition rsplit rstrip "
+    "setdefault split splitlines startswith strip update upper values zfill bit_length"
+).split()
+# Kinds of syntax that the rules exclude, or that the package does without.
+BARRED_SYNTAX = (
+    ast.GeneratorExp, ast.Lambda, ast.Global, ast.Nonlocal, ast.AsyncFunctionDef, ast.Await, ast.Div, ast.Try,
+    ast.AnnAssign, ast.Yield, ast.YieldFrom, ast.With, ast.Match, ast.NamedExpr, ast.Delete, ast.Mod, ast.Pow,
+)
 
 
 def parameters(function):
-    return [parameter.arg for parameter in function.args.args]
+    return ast.unparse(function.args)
 
 
 def functions_of(body):
@@ -47,7 +77,7 @@ class InterfaceTest(unittest.TestCase):
         for file, functions in FUNCTIONS.items():
             found = functions_of(self.tree(file).body)
             for name, arguments in functions.items():
-                self.assertEqual(parameters(found[name]), arguments.split(), name)
+                self.assertEqual(parameters(found[name]), arguments, name)
 
     def test_methods(self):
         for file, classes in METHODS.items():
@@ -55,7 +85,7 @@ class InterfaceTest(unittest.TestCase):
             for name, methods in classes.items():
                 own = functions_of(found[name].body)
                 for method, arguments in methods.items():
-                    self.assertEqual(parameters(own[method]), ["self", *arguments.split()], method)
+                    self.assertEqual(parameters(own[method]), arguments, method)
 
 
 class FormTest(unittest.TestCase):
@@ -98,6 +128,58 @@ class FormTest(unittest.TestCase):
                     defined = self.defined_in(item.module.split(".")[1])
                     for alias in item.names:
                         self.assertIn(alias.name, defined, name)
+
+    def test_barred_syntax(self):
+        for name, text in self.texts.items():
+            for item in ast.walk(ast.parse(text)):
+                self.assertNotIsInstance(item, BARRED_SYNTAX, name)
+                if isinstance(item, ast.Constant):
+                    self.assertNotIsInstance(item.value, (float, complex), name)
+                if isinstance(item, (ast.FunctionDef, ast.ClassDef)):
+                    self.assertEqual(item.decorator_list, [], name)
+                if isinstance(item, ast.Compare) and isinstance(item.ops[0], (ast.Is, ast.IsNot)):
+                    self.assertIsNone(item.comparators[0].value, name)
+
+    def test_names(self):
+        for name, text in self.texts.items():
+            tree = ast.parse(text)
+            imported = {alias.name for item in tree.body if isinstance(item, ast.ImportFrom) for alias in item.names}
+            classes = {item.name for item in tree.body if isinstance(item, ast.ClassDef)}
+            assigned = {item.id for item in ast.walk(tree)
+                        if isinstance(item, ast.Name) and isinstance(item.ctx, ast.Store)}
+            assigned |= {item.arg for item in ast.walk(tree) if isinstance(item, ast.arg)}
+            self.assertEqual(assigned & (imported | classes | set(dir(builtins))), set(), name)
+            self.assertEqual([word for word in assigned if word.startswith("_")], [], name)
+            read = {item.id for item in ast.walk(tree) if isinstance(item, ast.Name)}
+            known = set(self.defined_in(name[:-3])) | imported | assigned | set(BUILTINS)
+            self.assertEqual(read - known, set(), name)
+
+    def test_attributes_and_methods(self):
+        trees = [ast.parse(text) for text in self.texts.values()]
+        items = [item for tree in trees for item in ast.walk(tree)]
+        methods = {method for item in items if isinstance(item, ast.ClassDef) for method in functions_of(item.body)}
+        stored = {item.attr for item in items if isinstance(item, ast.Attribute) and isinstance(item.ctx, ast.Store)}
+        read = {item.attr for item in items if isinstance(item, ast.Attribute)}
+        self.assertEqual(methods & stored, set())
+        self.assertEqual(read - methods - stored - set(BUILTIN_METHODS), set())
+        self.assertEqual(stored & set(dir(str) + dir(list) + dir(dict) + dir(set) + dir(int) + dir(bytes)) - {"index"},
+                         set())
+
+    def test_no_file_imports_itself_through_others(self):
+        imports = {}
+        for name, text in self.texts.items():
+            imports[name[:-3]] = {
+                item.module.split(".")[1] for item in ast.walk(ast.parse(text)) if isinstance(item, ast.ImportFrom)
+            }
+        for name in imports:
+            reached = set()
+            waiting = list(imports[name])
+            while waiting:
+                file = waiting.pop()
+                if file not in reached:
+                    reached.add(file)
+                    waiting.extend(imports[file])
+            self.assertNotIn(name, reached)
 
     def defined_in(self, file):
         found = []

@@ -6,21 +6,11 @@ import unittest
 
 from oathmoot.errors import DuplicateNode, InUse, InvalidName, InvalidRequirement, MootError, UnknownNode
 from oathmoot.networks import Network
+from tests.cases import RaisingTestCase
 from tests.samples import APART, BROKEN_REQUIREMENTS, FOUR, OTHER_VALUES, PAIR, REQUIREMENTS, TRIO
 
 ALONE = (1, ("a",))
 NOT_NAMES = OTHER_VALUES + REQUIREMENTS + ("abcdefghi", "a\n", "aB", ["a"])
-
-
-class RaisingTestCase(unittest.TestCase):
-
-    def assert_raises(self, error, fields, call, *arguments):
-        """The call raises exactly this class, with these values in its fields."""
-        with self.assertRaises(MootError) as caught:
-            call(*arguments)
-        self.assertIs(type(caught.exception), error)
-        found = {field: getattr(caught.exception, field) for field in fields}
-        self.assertEqual(repr(found), repr(fields))
 
 
 class CreationTest(RaisingTestCase):

@@ -2,7 +2,7 @@
 
 import unittest
 
-from oathmoot.nodesets import is_within, minimal_sets, node_set, subsets
+from oathmoot.nodesets import is_ascending, is_within, minimal_sets, names_outside, node_set, subsets
 from tests import samples
 
 
@@ -18,6 +18,17 @@ class NodeSetsTest(unittest.TestCase):
         for small in samples.subsets("abc"):
             for large in samples.subsets("abc"):
                 self.assertIs(is_within(small, large), set(small) <= set(large))
+
+    def test_names_outside(self):
+        self.assertEqual(names_outside(("c", "a", "b"), ["a"]), ("c", "b"))
+        self.assertEqual(names_outside(["a", "b"], ("b", "a", "z")), ())
+        self.assertEqual(names_outside((), ("a",)), ())
+
+    def test_is_ascending(self):
+        for entries in ((), ("b",), ("a", "aa", "b"), [1, 2, 3]):
+            self.assertIs(is_ascending(entries), True)
+        for entries in (("a", "a"), ("b", "a"), ("a", "c", "b"), ("a", "b", "b"), (2, 1, 3)):
+            self.assertIs(is_ascending(entries), False)
 
     def test_subsets(self):
         self.assertEqual(subsets(()), ((),))
