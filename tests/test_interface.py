@@ -30,12 +30,26 @@ FUNCTIONS = {
         "closure": "network, faulty", "fatal_sets": "network", "guardian_sets": "network",
         "repairs": "network, faulty", "dependent_nodes": "network, faulty",
     },
+    "messages": {"is_ballot": "value", "is_statement": "value", "is_message": "network, value"},
+    "histories": {
+        "is_valid_history": "network, faulty, events", "is_complete_history": "network, faulty, events",
+        "justification": "network, faulty, events, node, ballot",
+    },
+    "exchange": {"exchange": "session, nodes"},
 }
 METHODS = {
     "networks": {
         "Network": {
             "__init__": "self, rows=()", "node_names": "self", "as_rows": "self", "requirement_of": "self, name",
             "with_node": "self, name, requirement", "without_node": "self, name",
+        },
+    },
+    "sessions": {
+        "Session": {
+            "__init__": "self, network, faulty=()", "all_events": "self", "copy": "self",
+            "vote": "self, node, ballot, answer", "receive": "self, node, message", "messages_of": "self, node",
+            "message_of": "self, node", "votes_of": "self, node", "accepted_by": "self, node",
+            "confirmed_by": "self, node", "received_by": "self, node", "reason_of": "self, node, ballot",
         },
     },
 }
