@@ -209,9 +209,9 @@ class Needs:
         for word, statement in self.unheard.get(pair, []):
             if self.hearing.firsts[(pair, word, statement)] == at:
                 return True
-        before = self.hearing.previous[at]
+        # A set that must still fit belongs to a statement that must still be heard, so here it was heard before.
         for nodes in self.unfitted.get(pair, []):
-            if before is None or not satisfies(before[1], nodes):
+            if not satisfies(self.hearing.previous[at][1], nodes):
                 return True
         return False
 

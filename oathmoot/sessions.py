@@ -119,9 +119,8 @@ class Member:
 
     def can_have_sent(self, message):
         """Whether a message of this node describes the node at some time up to now."""
-        # Each message that becomes possible has one statement more than the one before it.
-        count = len(message[2]) + len(message[3])
-        return count <= len(self.told) and message == self.message_after(count)
+        # Each message that becomes possible has one statement more than the one before it, so the length tells which.
+        return message == self.message_after(len(message[2]) + len(message[3]))
 
     def agreeing_nodes(self, statement):
         """The nodes of which the node knows that they vote for a statement or accept it."""

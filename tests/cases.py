@@ -4,6 +4,7 @@ import copy
 import unittest
 
 from oathmoot.errors import MootError, UnknownNode
+from oathmoot.networks import Network
 
 # Strings that are not nodes of the networks in the tests; most of them are not even names.
 NOT_NODES = ("z", "zz", "", " ", "A", "a ", "a\n", "a,b", "abcdefghi", "x" * 2000)
@@ -32,6 +33,15 @@ class RaisingTestCase(unittest.TestCase):
                 later = {after: "Q" if named[after] == "name" else ["Q", "z"] for after in parameters[at + 1:]}
                 self.assert_raises(
                     UnknownNode, {"name": name}, call, **{**arguments, **given, parameter: wrong, **later}
+                )
+
+    def assert_unknown_without_nodes(self, call, arguments, named):
+        """[20] in the network without nodes: no name is a node."""
+        for parameter in named:
+            given = {other: () for other in named if other != parameter}
+            for nodes in (["a"], ("a", "b"), ["a", "a"]):
+                self.assert_raises(
+                    UnknownNode, {"name": "a"}, call, **{**arguments, "network": Network(), **given, parameter: nodes}
                 )
 
     def assert_unchanged(self, call, *arguments, **named):

@@ -174,23 +174,23 @@ class Model:
                        for mine in self.nodes.values() for ballot in mine.ballots())
 
 
-def is_valid(network, faulty, events):
-    """Whether events, each of which has the form of an event, are a valid history."""
+def model_after(network, faulty, events):
+    """A model that performed the events, each of which has the form of an event; None if one is not allowed."""
     model = Model(network, faulty)
     for event in events:
         if not model.allows(event):
-            return False
+            return None
         model.perform(event)
-    return True
+    return model
+
+
+def is_valid(network, faulty, events):
+    return model_after(network, faulty, events) is not None
 
 
 def is_complete(network, faulty, events):
-    model = Model(network, faulty)
-    for event in events:
-        if not model.allows(event):
-            return False
-        model.perform(event)
-    return model.is_complete()
+    model = model_after(network, faulty, events)
+    return model is not None and model.is_complete()
 
 
 def drawn_statements(chance, ballots, share):

@@ -1,6 +1,7 @@
 """Networks, requirements and direct checks of requirements that several tests use."""
 
 import itertools
+import random
 
 from oathmoot.networks import Network
 
@@ -128,6 +129,15 @@ def drawn_set(chance, names, share=0.5):
     nodes = nodes + [chance.choice(nodes) for _ in range(chance.randint(0, 2)) if nodes]
     chance.shuffle(nodes)
     return chance.choice((list, tuple))(nodes)
+
+
+def drawn_cases(seed, sizes, times, shares=(0, 0.2, 0.5)):
+    """For each of the sizes that many drawn networks, each with a drawn set of faulty nodes."""
+    chance = random.Random(seed)
+    for size in sizes:
+        for _ in range(times):
+            network = drawn_network(chance, size)
+            yield chance, network, drawn_set(chance, network.node_names(), chance.choice(shares))
 
 
 def subsets(names):

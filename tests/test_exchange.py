@@ -10,7 +10,7 @@ from oathmoot.networks import Network
 from oathmoot.sessions import Session
 from tests.cases import RaisingTestCase
 from tests.model import Model, drawn_session
-from tests.samples import APART, FOUR, PAIR, TRIO, drawn_network, drawn_set
+from tests.samples import APART, FOUR, PAIR, TRIO, drawn_cases, drawn_network, drawn_set
 
 BALLOT = (1, "x")
 COMMIT = (BALLOT, "commit")
@@ -147,11 +147,8 @@ class ExchangeTest(RaisingTestCase):
         self.assertEqual([message[0] for message in session.received_by("a")], ["b", "c"])
 
     def test_drawn_sessions_by_a_direct_check(self):
-        chance = random.Random(71)
         lengths = []
-        for _ in range(80):
-            network = drawn_network(chance, chance.randint(2, 6))
-            faulty = drawn_set(chance, network.node_names(), chance.choice((0, 0.3)))
+        for chance, network, faulty in drawn_cases(71, range(2, 7), 16):
             session = drawn_session(chance, Session(network, faulty), BALLOTS, 15)
             nodes = drawn_set(chance, [name for name in network.node_names() if name not in faulty], 0.8)
             expected = exchange_in_model(session, nodes)

@@ -9,7 +9,7 @@ from oathmoot.networks import Network
 from oathmoot.sessions import Session
 from tests import model
 from tests.cases import RaisingTestCase
-from tests.samples import FOUR, OTHER_VALUES, PAIR, TRIO, drawn_network, drawn_set, nested
+from tests.samples import FOUR, OTHER_VALUES, PAIR, TRIO, drawn_cases, drawn_set, nested
 from tests.test_messages import BROKEN_BALLOTS, BROKEN_MESSAGES
 from tests.test_sessions import example_session
 
@@ -105,63 +105,53 @@ class ValidityTest(HistoryTestCase):
             self.assertEqual(model.is_complete(TRIO, ["c"], EVENTS[:count]), complete)
 
     def test_events_of_sessions_are_complete_histories(self):
-        chance = random.Random(51)
-        for _ in range(60):
-            network = drawn_network(chance, chance.randint(1, 6))
-            faulty = drawn_set(chance, network.node_names(), chance.choice((0, 0.3, 0.5)))
+        for chance, network, faulty in drawn_cases(51, range(1, 7), 10):
             session = model.drawn_session(chance, Session(network, faulty), BALLOTS, 30)
             self.assert_history(network, faulty, session.all_events(), True, True)
 
-    def test_drawn_histories(self):
-        chance = random.Random(52)
+    def check_drawn(self, seed, times, changes):
+        """What `changes` makes of drawn histories, by a direct check; return the answers."""
         answers = []
-        for _ in range(100):
-            network = drawn_network(chance, chance.randint(2, 5))
-            faulty = drawn_set(chance, network.node_names(), chance.choice((0, 0.3, 0.5)))
+        for chance, network, faulty in drawn_cases(seed, range(2, 6), times):
             events = model.drawn_history(chance, network, faulty, BALLOTS[:2], 50)
-            complete = model.is_complete(network, faulty, events)
-            self.assert_history(network, faulty, events, True, complete)
-            answers.append(complete)
-        self.assertGreater(answers.count(True), 10)
-        self.assertGreater(answers.count(False), 10)
+            for changed in changes(chance, network, events):
+                valid = model.is_valid(network, faulty, changed)
+                complete = model.is_complete(network, faulty, changed)
+                self.assert_history(network, faulty, changed, valid, complete)
+                answers.append((valid, complete))
+        return answers
+
+    def test_drawn_histories(self):
+        answers = self.check_drawn(52, 30, lambda chance, network, events: [events])
+        self.assertGreater(answers.count((True, True)), 10)
+        self.assertGreater(answers.count((True, False)), 10)
+        self.assertEqual(answers.count((False, False)), 0)
+
+    def moved(self, chance, network, events):
+        """Histories with one event left out, or moved to another place."""
+        for _ in range(min(10, len(events))):
+            changed = list(events)
+            event = changed.pop(chance.randrange(len(changed)))
+            for place in chance.choice(([], [chance.randint(0, len(changed))])):
+                changed.insert(place, event)
+            yield changed
 
     def test_drawn_histories_with_an_event_left_out_or_moved(self):
-        chance = random.Random(53)
-        answers = []
-        for _ in range(100):
-            network = drawn_network(chance, chance.randint(2, 5))
-            faulty = drawn_set(chance, network.node_names(), chance.choice((0, 0.3, 0.5)))
-            events = model.drawn_history(chance, network, faulty, BALLOTS[:2], 50)
-            for _ in range(min(10, len(events))):
-                changed = list(events)
-                event = changed.pop(chance.randrange(len(changed)))
-                for place in chance.choice(([], [chance.randint(0, len(changed))])):
-                    changed.insert(place, event)
-                valid = model.is_valid(network, faulty, changed)
-                complete = model.is_complete(network, faulty, changed)
-                self.assert_history(network, faulty, changed, valid, complete)
-                answers.append(valid)
-        self.assertGreater(answers.count(True), 100)
-        self.assertGreater(answers.count(False), 100)
+        answers = self.check_drawn(53, 30, self.moved)
+        for answer in ((True, True), (True, False), (False, False)):
+            self.assertGreater(answers.count(answer), 50)
 
-    def test_drawn_histories_with_one_drawn_event(self):
-        chance = random.Random(54)
-        answers = []
-        for _ in range(150):
-            network = drawn_network(chance, chance.randint(2, 5))
-            faulty = drawn_set(chance, network.node_names(), chance.choice((0, 0.3, 0.5)))
-            events = model.drawn_history(chance, network, faulty, BALLOTS[:2], 40)
-            for _ in range(10 if events else 0):
-                at = chance.randrange(len(events))
-                nodes = tuple(sorted(set(drawn_set(chance, network.node_names(), 0.6))))
-                changed = list(events)
-                changed[at] = self.changed_event(chance, network, events[at], nodes)
-                valid = model.is_valid(network, faulty, changed)
-                complete = model.is_complete(network, faulty, changed)
-                self.assert_history(network, faulty, changed, valid, complete)
-                answers.append(valid)
-        self.assertGreater(answers.count(True), 100)
-        self.assertGreater(answers.count(False), 100)
+    def exchanged(self, chance, network, events):
+        """Histories with another event in the place of one of them."""
+        for _ in range(10 if events else 0):
+            at = chance.randrange(len(events))
+            nodes = tuple(sorted(set(drawn_set(chance, network.node_names(), 0.6))))
+            yield [*events[:at], self.changed_event(chance, network, events[at], nodes), *events[at + 1:]]
+
+    def test_drawn_histories_with_one_other_event(self):
+        answers = self.check_drawn(54, 40, self.exchanged)
+        for answer in ((True, True), (True, False), (False, False)):
+            self.assertGreater(answers.count(answer), 50)
 
     def changed_event(self, chance, network, event, nodes):
         """The event with one other entry that is of the right form."""
@@ -193,7 +183,8 @@ class RulesTest(HistoryTestCase):
         for event in bad:
             self.assertIs(is_valid_history(network, faulty, [*events, event]), False, event)
             # Nothing that follows can mend it.
-            self.assertIs(is_valid_history(network, faulty, [*events, event, ("voted", "a", (6, "z"), "commit")]), False)
+            longer = [*events, event, ("voted", "a", (6, "z"), "commit")]
+            self.assertIs(is_valid_history(network, faulty, longer), False)
             self.assertIs(is_complete_history(network, faulty, [*events, event]), False)
 
     def test_voted(self):
@@ -431,6 +422,7 @@ class ArgumentsTest(HistoryTestCase):
         for call in (is_valid_history, is_complete_history):
             for events in (EVENTS, None, [("voted", "z", BALLOT, "commit")]):
                 self.assert_unknown(call, {"network": TRIO, "events": events}, {"faulty": "set"})
+                self.assert_unknown_without_nodes(call, {"events": events}, ["faulty"])
 
     def test_unknown_names_in_events_raise_nothing(self):
         for call in (is_valid_history, is_complete_history):

@@ -8,7 +8,7 @@ from oathmoot.intersection import are_disjoint_quorums, intersection, is_interse
 from oathmoot.networks import Network
 from tests import direct
 from tests.cases import RaisingTestCase
-from tests.samples import APART, FOUR, OTHER_VALUES, PAIR, TRIO, drawn_network, drawn_set, nested, subsets
+from tests.samples import APART, FOUR, OTHER_VALUES, PAIR, TRIO, drawn_cases, nested, subsets
 
 EMPTY = Network()
 PAIR_CERTIFICATE = ("split", "a", ("empty", "one", ("b",)), ("empty", "other", ("b",)))
@@ -16,15 +16,6 @@ EIGHT = Network([(name, (5, tuple("abcdefgh"))) for name in "abcdefgh"])
 TWO_HALVES = Network(
     [(name, (3, ("a", "b", "c", "d"))) for name in "abcd"] + [(name, (3, ("e", "f", "g", "h"))) for name in "efgh"]
 )
-
-
-def drawn_cases(seed, sizes, times):
-    """Drawn networks with a drawn set of faulty nodes."""
-    chance = random.Random(seed)
-    for size in sizes:
-        for _ in range(times):
-            network = drawn_network(chance, size)
-            yield chance, network, drawn_set(chance, network.node_names(), chance.choice((0, 0, 0.2, 0.4)))
 
 
 def as_lists(value):
@@ -154,6 +145,7 @@ class IntersectionTest(RaisingTestCase):
 
     def test_unknown_nodes(self):
         self.assert_unknown(intersection, {"network": FOUR}, {"faulty": "set"})
+        self.assert_unknown_without_nodes(intersection, {}, ["faulty"])
 
 
 class AreDisjointQuorumsTest(RaisingTestCase):
@@ -198,6 +190,7 @@ class AreDisjointQuorumsTest(RaisingTestCase):
 
     def test_unknown_nodes(self):
         self.assert_unknown(are_disjoint_quorums, {"network": FOUR}, {"one": "set", "other": "set", "faulty": "set"})
+        self.assert_unknown_without_nodes(are_disjoint_quorums, {}, ["one", "other", "faulty"])
 
 
 class CertificateTest(RaisingTestCase):
@@ -310,12 +303,14 @@ class CertificateTest(RaisingTestCase):
     def test_arguments(self):
         value = as_lists(PAIR_CERTIFICATE)
         self.assertIs(self.assert_unchanged(is_intersection_certificate, PAIR, value, faulty=[]), True)
-        self.assertIs(is_intersection_certificate(certificate=("empty", "one", ()), faulty=["a", "b"], network=PAIR), True)
-        self.assert_by_name_only(is_intersection_certificate, PAIR, ("empty", "one", ()), ["a", "b"])
+        empty = ("empty", "one", ())
+        self.assertIs(is_intersection_certificate(certificate=empty, faulty=["a", "b"], network=PAIR), True)
+        self.assert_by_name_only(is_intersection_certificate, PAIR, empty, ["a", "b"])
 
     def test_unknown_nodes(self):
         for value in (PAIR_CERTIFICATE, None, ("empty", "one", ("z",)), [[]]):
             self.assert_unknown(is_intersection_certificate, {"network": FOUR, "certificate": value}, {"faulty": "set"})
+            self.assert_unknown_without_nodes(is_intersection_certificate, {"certificate": value}, ["faulty"])
 
 
 if __name__ == "__main__":

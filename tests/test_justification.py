@@ -9,7 +9,7 @@ from oathmoot.networks import Network
 from oathmoot.sessions import Session
 from tests import model
 from tests.cases import NOT_NODES, RaisingTestCase
-from tests.samples import OTHER_VALUES, PAIR, TRIO, drawn_network, drawn_requirement, drawn_set, nested
+from tests.samples import OTHER_VALUES, PAIR, TRIO, drawn_cases, drawn_network, drawn_requirement, nested
 from tests.test_histories import EVENTS, events_of_other_forms
 from tests.test_messages import ANY_VALUES, BROKEN_BALLOTS
 from tests.test_sessions import TOLD
@@ -124,22 +124,16 @@ class ResultTest(JustificationTestCase):
 class DrawnTest(JustificationTestCase):
 
     def test_events_of_drawn_sessions(self):
-        chance = random.Random(61)
         counts = []
-        for _ in range(60):
-            network = drawn_network(chance, chance.randint(2, 5))
-            faulty = drawn_set(chance, network.node_names(), chance.choice((0, 0.3, 0.5)))
+        for chance, network, faulty in drawn_cases(61, range(2, 6), 15):
             session = model.drawn_session(chance, Session(network, faulty), BALLOTS, 30)
             counts.append(self.check_all(network, faulty, session.all_events()))
         self.assertGreater(sum(count for count, length in counts), 100)
         self.assertGreater(max(length for count, length in counts), 10)
 
     def test_drawn_histories(self):
-        chance = random.Random(62)
         counts = []
-        for _ in range(100):
-            network = drawn_network(chance, chance.randint(2, 5))
-            faulty = drawn_set(chance, network.node_names(), chance.choice((0, 0.3, 0.5)))
+        for chance, network, faulty in drawn_cases(62, range(2, 6), 25):
             events = model.drawn_history(chance, network, faulty, BALLOTS, 60)
             counts.append(self.check_all(network, faulty, events))
         self.assertGreater(sum(count for count, length in counts), 100)
@@ -207,6 +201,7 @@ class ErrorsTest(JustificationTestCase):
         for events, node, ballot in ((EVENTS, "a", BALLOT), (None, "z", None)):
             arguments = {"network": TRIO, "events": events, "node": node, "ballot": ballot}
             self.assert_unknown(justification, arguments, {"faulty": "set"})
+            self.assert_unknown_without_nodes(justification, arguments, ["faulty"])
 
 
 class ArgumentsTest(JustificationTestCase):

@@ -20,7 +20,8 @@ STATEMENTS = (
 )
 # Values of every kind, none of which is a ballot, a statement or a message.
 ANY_VALUES = (
-    *[value for value in OTHER_VALUES if value not in ((1, "a"), (1, "ab"))], "x", "commit", nested("x", 40), nested([], 40), nested(BALLOT, 38), [nested([1], 38)],
+    *[value for value in OTHER_VALUES if value not in ((1, "a"), (1, "ab"))], "x", "commit", nested("x", 40),
+    nested([], 40), nested(BALLOT, 38), [nested([1], 38)],
     (BALLOT,), (COMMIT,), (COMMIT, ABORT), (MESSAGE,), NEED, "1 x", repr(BALLOT), repr(COMMIT), repr(MESSAGE),
     ((1, "x"), ("commit",)), ("a", "b", "c", "d"), (1, 2, 3, 4), ((), (), (), ()), ("a", (), (), ()),
 )

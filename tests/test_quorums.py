@@ -1,7 +1,6 @@
 """Promises [21] to [26], and [2], [3] and [20] as far as they bear on quorums.py."""
 
 import itertools
-import random
 import unittest
 
 from oathmoot.networks import Network
@@ -9,7 +8,7 @@ from oathmoot.quorums import is_quorum, is_removal_order, largest_quorum, minima
 from tests import direct
 from tests.cases import RaisingTestCase
 from tests.samples import (
-    APART, FOUR, OTHER_VALUES, PAIR, TRIO, drawn_network, drawn_set, nested, subsets,
+    APART, FOUR, OTHER_VALUES, PAIR, TRIO, drawn_cases, drawn_set, nested, subsets,
 )
 
 EMPTY = Network()
@@ -19,15 +18,6 @@ CHAIN = Network([
     ("e", (1, ("f",))), ("f", (2, ("e", "a"))),
 ])
 EIGHT = Network([(name, (2, ((2, ("a", "b", "c")), (3, ("d", "e", "f", "g")), "h"))) for name in "abcdefgh"])
-
-
-def drawn_cases(seed, sizes, times):
-    """Drawn networks with a drawn set of faulty nodes."""
-    chance = random.Random(seed)
-    for size in sizes:
-        for _ in range(times):
-            network = drawn_network(chance, size)
-            yield chance, network, drawn_set(chance, network.node_names(), chance.choice((0, 0.2, 0.5)))
 
 
 class IsQuorumTest(RaisingTestCase):
@@ -96,6 +86,7 @@ class IsQuorumTest(RaisingTestCase):
 
     def test_unknown_nodes(self):
         self.assert_unknown(is_quorum, {"network": FOUR}, {"nodes": "set", "faulty": "set"})
+        self.assert_unknown_without_nodes(is_quorum, {}, ["nodes", "faulty"])
         self.assert_unknown(is_quorum, {"network": FOUR, "faulty": ["a"]}, {"nodes": "set"})
 
 
@@ -155,6 +146,7 @@ class RemovalOrderTest(RaisingTestCase):
 
     def test_unknown_nodes(self):
         self.assert_unknown(removal_order, {"network": FOUR}, {"nodes": "set", "faulty": "set"})
+        self.assert_unknown_without_nodes(removal_order, {}, ["nodes", "faulty"])
 
 
 class IsRemovalOrderTest(RaisingTestCase):
@@ -235,6 +227,7 @@ class IsRemovalOrderTest(RaisingTestCase):
             self.assert_unknown(
                 is_removal_order, {"network": FOUR, "order": order}, {"nodes": "set", "faulty": "set"}
             )
+            self.assert_unknown_without_nodes(is_removal_order, {"order": order}, ["nodes", "faulty"])
 
 
 class LargestQuorumTest(RaisingTestCase):
@@ -275,6 +268,7 @@ class LargestQuorumTest(RaisingTestCase):
 
     def test_unknown_nodes(self):
         self.assert_unknown(largest_quorum, {"network": FOUR}, {"nodes": "set", "faulty": "set"})
+        self.assert_unknown_without_nodes(largest_quorum, {}, ["nodes", "faulty"])
 
 
 class MinimalQuorumsTest(RaisingTestCase):
@@ -314,6 +308,7 @@ class MinimalQuorumsTest(RaisingTestCase):
 
     def test_unknown_nodes(self):
         self.assert_unknown(minimal_quorums, {"network": FOUR}, {"faulty": "set"})
+        self.assert_unknown_without_nodes(minimal_quorums, {}, ["faulty"])
 
 
 if __name__ == "__main__":

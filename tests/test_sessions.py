@@ -13,7 +13,7 @@ from oathmoot.networks import Network
 from oathmoot.sessions import Session
 from tests.cases import NOT_NODES, RaisingTestCase
 from tests.model import Model, drawn_session, drawn_step
-from tests.samples import APART, FOUR, OTHER_VALUES, PAIR, TRIO, drawn_network, drawn_set
+from tests.samples import APART, FOUR, OTHER_VALUES, PAIR, TRIO, drawn_cases, drawn_network
 from tests.test_messages import ANY_VALUES, BROKEN_BALLOTS, BROKEN_MESSAGES
 
 BALLOT = (1, "x")
@@ -86,6 +86,7 @@ class CreationTest(SessionTestCase):
 
     def test_unknown_nodes(self):
         self.assert_unknown(Session, {"network": FOUR}, {"faulty": "set"})
+        self.assert_unknown_without_nodes(Session, {}, ["faulty"])
 
     def test_length_and_events(self):
         session = Session(TRIO, ["c"])
@@ -99,10 +100,7 @@ class CreationTest(SessionTestCase):
 class CopyAndEqualityTest(SessionTestCase):
 
     def test_a_copy_and_its_original_do_not_affect_each_other(self):
-        chance = random.Random(31)
-        for _ in range(40):
-            network = drawn_network(chance, chance.randint(2, 6))
-            faulty = drawn_set(chance, network.node_names(), 0.3)
+        for chance, network, faulty in drawn_cases(31, range(2, 7), 8):
             session = drawn_session(chance, Session(network, faulty), BALLOTS, 15)
             twin = session.copy()
             self.assertIs(type(twin), Session)
@@ -117,10 +115,7 @@ class CopyAndEqualityTest(SessionTestCase):
             self.assertEqual(state_of(twin), changed)
 
     def test_a_copy_goes_on_as_its_original(self):
-        chance = random.Random(32)
-        for _ in range(40):
-            network = drawn_network(chance, chance.randint(2, 6))
-            faulty = drawn_set(chance, network.node_names(), 0.3)
+        for chance, network, faulty in drawn_cases(32, range(2, 7), 8):
             session = drawn_session(chance, Session(network, faulty), BALLOTS, 15)
             twin = session.copy()
             for _ in range(15):
@@ -393,7 +388,8 @@ class MessagesOfTest(SessionTestCase):
                 found = session.messages_of(name)
                 self.assertEqual(repr(session.message_of(name)), repr(found[-1]))
                 self.assertIsInstance(found, tuple)
-                told = [event for event in session.all_events() if event[1] == name and event[0] in ("voted", "accepted")]
+                told = [event for event in session.all_events()
+                        if event[1] == name and event[0] in ("voted", "accepted")]
                 self.assertEqual(len(found), len(told) + 1)
                 self.assertEqual([len(message[2]) + len(message[3]) for message in found], list(range(len(found))))
 
@@ -451,10 +447,7 @@ class QueriesTest(SessionTestCase):
         self.assertEqual(session.received_by("a"), (last,))
 
     def test_drawn_sessions_by_a_direct_check(self):
-        chance = random.Random(34)
-        for _ in range(60):
-            network = drawn_network(chance, chance.randint(2, 6))
-            faulty = drawn_set(chance, network.node_names(), 0.4)
+        for chance, network, faulty in drawn_cases(34, range(2, 7), 12):
             session, model = Session(network, faulty), Model(network, faulty)
             for _ in range(20):
                 step = drawn_step(chance, session, BALLOTS)

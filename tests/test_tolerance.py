@@ -121,6 +121,7 @@ class ToleranceTest(ToleranceTestCase):
         self.assertEqual(tolerance(faulty=("b", "b"), network=PAIR), ("dependent", "a"))
         self.assert_unchanged(tolerance, FOUR, ["b", "a", "b"])
         self.assert_unknown(tolerance, {"network": FOUR}, {"faulty": "set"})
+        self.assert_unknown_without_nodes(tolerance, {}, ["faulty"])
 
 
 class ToleratedSetsTest(ToleranceTestCase):
@@ -171,6 +172,7 @@ class MinimalToleratedTest(ToleranceTestCase):
         self.assertEqual(minimal_tolerated(faulty=["a"], network=PAIR), (("a", "b"),))
         self.assert_unchanged(minimal_tolerated, FOUR, ["b", "a", "b"])
         self.assert_unknown(minimal_tolerated, {"network": FOUR}, {"faulty": "set"})
+        self.assert_unknown_without_nodes(minimal_tolerated, {}, ["faulty"])
 
 
 class ClosureTest(ToleranceTestCase):
@@ -212,6 +214,7 @@ class ClosureTest(ToleranceTestCase):
         self.assertEqual(closure(faulty=["a"], network=PAIR), ("a", "b"))
         self.assert_unchanged(closure, FOUR, ["b", "a", "b"])
         self.assert_unknown(closure, {"network": FOUR}, {"faulty": "set"})
+        self.assert_unknown_without_nodes(closure, {}, ["faulty"])
 
 
 class FatalAndGuardianSetsTest(ToleranceTestCase):
@@ -306,6 +309,10 @@ class RepairsTest(ToleranceTestCase):
         network = Network([("a", (1, ((1, ("a", "b")),))), ("b", (1, ((1, ("a", "b")), (2, ("a", "b")))))])
         self.assertEqual(repairs(network, ()), (("b", 2),))
 
+    def test_no_other_count(self):
+        self.assertEqual(repairs(PAIR, ()), ())
+        self.assert_raises(UnknownNode, {"name": "z"}, repairs, PAIR, ["a", "z"])
+
     def test_no_honest_node(self):
         self.assertEqual(repairs(TRIO, "abc"), tuple((name, count) for name in "abc" for count in (1, 3)))
 
@@ -334,6 +341,7 @@ class RepairsTest(ToleranceTestCase):
         self.assertEqual(repairs(faulty=(), network=APART), (("a", 2), ("b", 2)))
         self.assert_unchanged(repairs, FOUR, ["b", "a", "b"])
         self.assert_unknown(repairs, {"network": FOUR}, {"faulty": "set"})
+        self.assert_unknown_without_nodes(repairs, {}, ["faulty"])
 
 
 class DependentNodesTest(ToleranceTestCase):
@@ -365,6 +373,7 @@ class DependentNodesTest(ToleranceTestCase):
         self.assertEqual(dependent_nodes(faulty=["b"], network=PAIR), ("a",))
         self.assert_unchanged(dependent_nodes, FOUR, ["b", "a", "b"])
         self.assert_unknown(dependent_nodes, {"network": FOUR}, {"faulty": "set"})
+        self.assert_unknown_without_nodes(dependent_nodes, {}, ["faulty"])
 
 
 class SmallNetworksTest(ToleranceTestCase):
