@@ -1,6 +1,6 @@
 """Networks: nodes, each with its requirement."""
 
-from oathmoot.errors import DuplicateNode, InUse, InvalidName, InvalidRequirement, UnknownNode
+from oathmoot.errors import DuplicateNode, FaultyNode, InUse, InvalidName, InvalidRequirement, UnknownNode
 from oathmoot.requirements import is_name, is_requirement, names_in
 
 
@@ -53,6 +53,12 @@ class Network:
         for name in names:
             if name not in self.requirements:
                 raise UnknownNode(name)
+
+    def check_honest(self, faulty, name):
+        """Raise UnknownNode for the first name that is not a node, then FaultyNode if the node is faulty."""
+        self.check_nodes([*faulty, name])
+        if name in faulty:
+            raise FaultyNode(name)
 
     def requirement_of(self, name):
         """The requirement of a node."""

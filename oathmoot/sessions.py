@@ -1,7 +1,7 @@
 """Sessions: honest nodes vote, receive messages, accept statements and confirm them."""
 
-from oathmoot.errors import AlreadyAccepted, AlreadyVoted, FaultyNode, InvalidAnswer, InvalidBallot
-from oathmoot.errors import InvalidMessage, NotAccepted, NotSent, OwnMessage
+from oathmoot.errors import AlreadyAccepted, AlreadyVoted, InvalidAnswer, InvalidBallot, InvalidMessage
+from oathmoot.errors import NotAccepted, NotSent, OwnMessage
 from oathmoot.messages import ANSWERS, is_answer, is_ballot, is_message
 from oathmoot.nodesets import names_outside, node_set
 from oathmoot.requirements import blocks, satisfies
@@ -249,9 +249,7 @@ class Session:
 
     def honest_member(self, node):
         """The honest node of this name."""
-        self.network.check_nodes([node])
-        if node in self.faulty:
-            raise FaultyNode(node)
+        self.network.check_honest(self.faulty, node)
         return self.members[node]
 
     def finish_step(self, member, first, ballots):

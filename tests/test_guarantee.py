@@ -1,14 +1,18 @@
-"""Promise [6] as far as it speaks of sessions, and the last sentence of [52]."""
+"""Promise [6], and the last sentences of [52] and [64]. More of the second case of [6], and [7]: test_attacks.py."""
 
 import random
 import unittest
 
 from oathmoot.exchange import exchange
 from oathmoot.networks import Network
+from oathmoot.attacks import attack, is_attack
+from oathmoot.intersection import is_intersection_certificate
 from oathmoot.sessions import Session
+from oathmoot.slots import Slot
 from oathmoot.tolerance import tolerance
 from tests.model import ANSWERS, drawn_history, drawn_session, drawn_step
-from tests.samples import drawn_network, drawn_set
+from tests.samples import drawn_network, drawn_set, subsets
+from tests.slot_model import drawn_decision, drawn_slot
 
 BALLOTS = [(0, "x"), (1, "x"), (1, "y")]
 
@@ -117,6 +121,81 @@ class GuaranteeTest(unittest.TestCase):
             session.receive(name, ("c", (1, ("c",)), (((1, "x"), answer),), ()))
         self.assertEqual(session.accepted_by("a"), (((1, "x"), "commit"),))
         self.assertEqual(session.accepted_by("b"), (((1, "x"), "abort"),))
+
+    def test_a_certificate_of_exactly_one_case(self):
+        chance = random.Random(85)
+        for size in (1, 2, 3, 4, 5):
+            for _ in range(5):
+                network = drawn_network(chance, size)
+                for faulty in subsets(network.node_names()):
+                    found, steps = tolerance(network, faulty), attack(network, faulty)
+                    if found[0] == "tolerated":
+                        self.assertIsNone(steps)
+                        self.assertIs(is_intersection_certificate(network, found[1], faulty=faulty), True)
+                    else:
+                        self.assertIs(is_attack(network, faulty, steps), True)
+
+
+class SlotGuaranteeTest(unittest.TestCase):
+
+    def check_decided(self, slot, trusted, honest):
+        """The nodes outside a tolerated set decide one value at most, which an honest node nominated."""
+        decided = {value for name in trusted for value in slot.decided_by(name)}
+        self.assertLessEqual(len(decided), 1)
+        voted = {statement for name in honest for statement in slot.votes_of(name)}
+        for value in decided:
+            self.assertIn(((0, value), "commit"), voted)
+        return len(decided)
+
+    def test_drawn_slots(self):
+        chance = random.Random(86)
+        decided = 0
+        for network, faulty, honest in tolerated_cases(chance, 120, (2, 3, 4, 5, 6)):
+            slot = Slot(network, faulty, chance.sample(["x", "y", "z"], chance.randint(1, 3)))
+            for _ in range(2):
+                drawn_decision(chance, slot, 1)
+                decided += self.check_decided(slot, honest, honest)
+                # What one honest node decided, all decide once they have heard of each other.
+                before = {value for name in honest for value in slot.decided_by(name)}
+                exchange(slot, honest)
+                if before:
+                    self.assertEqual({slot.decided_by(name) for name in honest}, {tuple(before)})
+                self.check_decided(slot, honest, honest)
+        self.assertGreater(decided, 100)
+
+    def test_rival_values(self):
+        # The nodes are split between two values, and the faulty ones tell everyone what suits them.
+        chance = random.Random(87)
+        decided = 0
+        for network, faulty, honest in tolerated_cases(chance, 80, (3, 4, 5, 6)):
+            slot = Slot(network, faulty, ["x", "y"])
+            for value in "xy":
+                for name in honest:
+                    slot.nominate(name, value)
+            exchange(slot, honest)
+            for number in (1, 2, 3):
+                for name in honest:
+                    value = chance.choice("xy")
+                    slot.prepare(name, number, value)
+                    told = (((number, value), "commit"),)
+                    for sender in sorted(set(faulty)):
+                        slot.receive(name, (sender, (1, (sender,)), told, told))
+                drawn_slot(chance, slot, 30, (number,))
+                exchange(slot, honest)
+                drawn_slot(chance, slot, 30, (number,))
+                decided += self.check_decided(slot, honest, honest)
+        self.assertGreater(decided, 20)
+
+    def test_a_tolerated_set_that_contains_the_faulty_nodes(self):
+        # Nodes of the set that are not faulty may do as they like.
+        chance = random.Random(88)
+        decided = 0
+        for network, larger, trusted in tolerated_cases(chance, 80, (3, 4, 5, 6)):
+            faulty = [name for name in larger if chance.random() < 0.4]
+            honest = [name for name in network.node_names() if name not in faulty]
+            slot = drawn_decision(chance, Slot(network, faulty, ["x", "y"]), 3)
+            decided += self.check_decided(slot, trusted, honest)
+        self.assertGreater(decided, 30)
 
 
 if __name__ == "__main__":

@@ -36,6 +36,20 @@ FUNCTIONS = {
         "justification": "network, faulty, events, node, ballot",
     },
     "exchange": {"exchange": "session, nodes"},
+    "attacks": {
+        "attack": "network, faulty", "is_attack": "network, faulty, steps", "mislead": "network, faulty, node",
+        "misleads": "network, faulty, node, steps", "confirm_alone": "network, faulty, node",
+        "confirms_alone": "network, faulty, node, steps",
+    },
+    "analysis": {
+        "followers": "network, faulty, node", "explain_messages": "network, faulty, messages",
+        "explains": "network, faulty, messages, events",
+    },
+}
+SESSION_QUERIES = {
+    "all_events": "self", "copy": "self", "receive": "self, node, message", "messages_of": "self, node",
+    "message_of": "self, node", "votes_of": "self, node", "accepted_by": "self, node", "confirmed_by": "self, node",
+    "received_by": "self, node", "reason_of": "self, node, ballot",
 }
 METHODS = {
     "networks": {
@@ -46,10 +60,15 @@ METHODS = {
     },
     "sessions": {
         "Session": {
-            "__init__": "self, network, faulty=()", "all_events": "self", "copy": "self",
-            "vote": "self, node, ballot, answer", "receive": "self, node, message", "messages_of": "self, node",
-            "message_of": "self, node", "votes_of": "self, node", "accepted_by": "self, node",
-            "confirmed_by": "self, node", "received_by": "self, node", "reason_of": "self, node, ballot",
+            "__init__": "self, network, faulty=()", "vote": "self, node, ballot, answer", **SESSION_QUERIES,
+        },
+    },
+    "slots": {
+        "Slot": {
+            "__init__": "self, network, faulty, values", **SESSION_QUERIES, "slot_values": "self",
+            "session_copy": "self", "nominate": "self, node, value", "prepare": "self, node, number, value",
+            "commit": "self, node, number, value", "nominated_for": "self, node",
+            "is_prepared": "self, node, number, value", "decided_by": "self, node",
         },
     },
 }
@@ -69,8 +88,8 @@ BUILTIN_METHODS = (
 ).split()
 # Kinds of syntax that the rules exclude, or that the package does without.
 BARRED_SYNTAX = (
-    ast.GeneratorExp, ast.Lambda, ast.Global, ast.Nonlocal, ast.AsyncFunctionDef, ast.Await, ast.Div, ast.Try,
-    ast.AnnAssign, ast.Yield, ast.YieldFrom, ast.With, ast.Match, ast.NamedExpr, ast.Delete, ast.Mod, ast.Pow,
+    ast.GeneratorExp, ast.Lambda, ast.Global, ast.Nonlocal, ast.AsyncFunctionDef, ast.Await, ast.Div, ast.AnnAssign,
+    ast.Yield, ast.YieldFrom, ast.With, ast.Match, ast.NamedExpr, ast.Delete, ast.Mod, ast.Pow,
 )
 
 
@@ -153,6 +172,21 @@ class FormTest(unittest.TestCase):
                     self.assertEqual(item.decorator_list, [], name)
                 if isinstance(item, ast.Compare) and isinstance(item.ops[0], (ast.Is, ast.IsNot)):
                     self.assertIsNone(item.comparators[0].value, name)
+
+    def test_only_own_errors_are_caught(self):
+        for name, text in self.texts.items():
+            for item in ast.walk(ast.parse(text)):
+                if isinstance(item, ast.Try):
+                    self.assertEqual((item.orelse, item.finalbody), ([], []), name)
+                    for handler in item.handlers:
+                        self.assertEqual(ast.unparse(handler.type), "MootError", name)
+                        self.assertIsNone(handler.name, name)
+
+    def test_stars_stand_before_names_and_attributes(self):
+        for name, text in self.texts.items():
+            for item in ast.walk(ast.parse(text)):
+                if isinstance(item, ast.Starred):
+                    self.assertIsInstance(item.value, (ast.Name, ast.Attribute), name)
 
     def test_names(self):
         for name, text in self.texts.items():
