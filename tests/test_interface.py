@@ -45,6 +45,13 @@ FUNCTIONS = {
         "followers": "network, faulty, node", "explain_messages": "network, faulty, messages",
         "explains": "network, faulty, messages, events",
     },
+    "completion": {"completion": "slot, faulty", "is_completion": "slot, faulty, steps"},
+    "registry": {"replay": "operations", "migration": "one, other", "is_migration": "one, other, operations"},
+    "formatting": {
+        "format_requirement": "requirement", "parse_requirement": "text", "format_network": "network",
+        "parse_network": "text", "format_message": "message", "parse_message": "text", "format_event": "event",
+        "parse_event": "text",
+    },
 }
 SESSION_QUERIES = {
     "all_events": "self", "copy": "self", "receive": "self, node, message", "messages_of": "self, node",
@@ -71,6 +78,18 @@ METHODS = {
             "is_prepared": "self, node, number, value", "decided_by": "self, node",
         },
     },
+    "registry": {
+        "Registry": {
+            "__init__": "self", "current_network": "self", "open_slots": "self", "slot_copy": "self, name",
+            "closed_slots": "self", "operations_in_effect": "self", "copy": "self", "join": "self, name, requirement",
+            "change": "self, name, requirement", "leave": "self, name", "start": "self, slot, faulty, values",
+            "close": "self, slot", "nominate": "self, slot, node, value",
+            "prepare": "self, slot, node, number, value", "commit": "self, slot, node, number, value",
+            "receive": "self, slot, node, message", "exchange": "self, slot, nodes", "undo": "self", "redo": "self",
+            "undo_count": "self", "redo_count": "self",
+        },
+    },
+    "console": {"Console": {"__init__": "self", "registry_copy": "self", "run": "self, line"}},
 }
 BARRED_WORDS = (
     "type typing typing_extensions enum Enum IntEnum StrEnum Flag IntFlag Generic Protocol ABC ABCMeta namedtuple "
@@ -172,6 +191,49 @@ class FormTest(unittest.TestCase):
                     self.assertEqual(item.decorator_list, [], name)
                 if isinstance(item, ast.Compare) and isinstance(item.ops[0], (ast.Is, ast.IsNot)):
                     self.assertIsNone(item.comparators[0].value, name)
+
+    def test_module_level(self):
+        for name, text in self.texts.items():
+            tree = ast.parse(text)
+            bound, above = [], []
+            for item in tree.body:
+                self.assertIsInstance(item, (ast.Expr, ast.ImportFrom, ast.FunctionDef, ast.ClassDef, ast.Assign), name)
+                if isinstance(item, ast.Expr):
+                    self.assertIs(item, tree.body[0], name)
+                    self.assertIsInstance(item.value.value, str)
+                elif isinstance(item, ast.ImportFrom):
+                    bound.extend(alias.asname or alias.name for alias in item.names)
+                elif isinstance(item, ast.Assign):
+                    self.assertEqual([ast.Name], [kind for kind in map(type, item.targets)], name)
+                    bound.append(item.targets[0].id)
+                    self.check_plain(item.value, above, 0)
+                else:
+                    bound.append(item.name)
+                    above.append(item.name)
+            self.assertEqual(len(bound), len(set(bound)), name)
+            self.assertEqual(set(bound) & set(dir(builtins)), set(), name)
+
+    def check_plain(self, value, above, depth):
+        """A plain value: literals, tuples of such, dicts and lists at the top, and functions defined above."""
+        if isinstance(value, ast.Name):
+            self.assertIn(value.id, above)
+        elif isinstance(value, ast.Tuple):
+            for entry in value.elts:
+                self.check_plain(entry, above, depth + 1)
+        elif isinstance(value, ast.Dict):
+            self.assertEqual(depth, 0)
+            for entry in (*value.keys, *value.values):
+                self.check_plain(entry, above, depth + 1)
+        else:
+            self.assertIsInstance(value, ast.Constant)
+
+    def test_functions_stand_in_files_and_classes_only(self):
+        for name, text in self.texts.items():
+            for item in ast.walk(ast.parse(text)):
+                if isinstance(item, ast.FunctionDef):
+                    inside = [inner for inner in ast.walk(item) if inner is not item]
+                    barred = (ast.FunctionDef, ast.ClassDef, ast.Import, ast.ImportFrom)
+                    self.assertEqual([inner for inner in inside if isinstance(inner, barred)], [], name)
 
     def test_only_own_errors_are_caught(self):
         for name, text in self.texts.items():
